@@ -1,0 +1,1 @@
+"""Laterless: sums along endless rows in which later things count less."""
