@@ -1,7 +1,7 @@
 """Changed copies of nested tuples, and values of all kinds, for the tests."""
 
 
-class Plain:
+class Agreeing:
     """An object that is equal to everything and has no hash."""
 
     __hash__ = None
@@ -41,16 +41,17 @@ def other_things():
         [], [[]], [1, 2], [2, "a", [[[0, 0]]]], {}, {0: 1}, {True: 1}, {"a": (0, 0)}, {0: {}, 1: []},
         set(), {1, 2}, frozenset(), frozenset([1, 2]), range(2), iter([1, 2]), slice(1, 2), ...,
         NotImplemented, int, str, tuple, list, object, object(), len, lambda: 1, ValueError, ValueError("x"),
-        Plain, Plain(), Broken(), (Plain(), Plain()), (Broken(), Broken()), (Plain(), Plain(), Plain()),
-        (2, "a", Plain()), (2, "a", (Plain(),)), (2, "a", ((Plain(),),)), (2, "a", (((Plain(),),),)),
+        Agreeing, Agreeing(), Broken(), (Agreeing(), Agreeing()), (Broken(), Broken()),
+        (Agreeing(), Agreeing(), Agreeing()),
+        (2, "a", Agreeing()), (2, "a", (Agreeing(),)), (2, "a", ((Agreeing(),),)), (2, "a", (((Agreeing(),),),)),
         (2, "a", (((Broken(), Broken()),),)), (2, "a", ((((Broken(), 0), (Broken(), 0)),),)),
-        ("a", Plain()), ("a", (Plain(),)), ("a", ((Plain(),),)), ("a", ((Broken(),),)), (Broken(), ((0,),)),
+        ("a", Agreeing()), ("a", (Agreeing(),)), ("a", ((Agreeing(),),)), ("a", ((Broken(),),)), (Broken(), ((0,),)),
     ]
 
 
 def of_other_kinds(part):
     """Values that are of another kind than part, but look like it where that can be."""
-    found = [True, False, "0", "", b"ab", 1.0, [], {}, Plain(), Broken(), object()]
+    found = [True, False, "0", "", b"ab", 1.0, [], {}, Agreeing(), Broken(), object()]
     if isinstance(part, int):
         found = found + [bool(part), float(part), str(part), (part,), [part]]
     elif isinstance(part, str):

@@ -6,7 +6,7 @@ from fractions import Fraction
 
 from laterless.errors import NoDivisor, NoNumber
 from laterless.numbers import compared, minus, number_of, plus
-from parts import Broken, Plain, other_things
+from parts import Agreeing, Broken, other_things
 
 GREAT = 10 ** 1200
 # Python does not write out an integer of this size unless it is told to.
@@ -20,7 +20,8 @@ NO_NUMBERS = [
     (1, 0), (0, 0), (1, -1), (-1, -2), (0, -1), (GREATEST, 0), (1, -GREATEST),
     (True, 2), (False, 1), (1, True), (0, True), (True, True), [1, 2], [0, 1], [[1, 2]],
     (1,), (), (1, 2, 3), (1, 2, 1), ((1, 2),), ((1, 2), (1, 2)), (1.0, 2), (1, 2.0), ("1", "2"), (None, 1), (1, None),
-    ([1], 2), (1, [2]), Fraction(1, 2), "(1, 2)", {0: 1, 1: 2}, range(1, 3), (Plain(), 1), (1, Plain()), (Broken(), 1),
+    ([1], 2), (1, [2]), Fraction(1, 2), "(1, 2)", {0: 1, 1: 2}, range(1, 3),
+    (Agreeing(), 1), (1, Agreeing()), (Broken(), 1),
 ]
 
 
@@ -59,12 +60,12 @@ class NumberOfTest(unittest.TestCase):
         self.assertEqual(number_of(d=4, n=6), (3, 2))
 
     def test_no_number(self):
-        for n in [True, False, None, 1.0, "1", b"1", (1, 2), (1,), [1], {}, Fraction(1), Plain(), Broken()]:
+        for n in [True, False, None, 1.0, "1", b"1", (1, 2), (1,), [1], {}, Fraction(1), Agreeing(), Broken()]:
             with self.subTest(kind=n.__class__):
                 self.assertRaises(NoNumber, number_of, n, 1)
 
     def test_no_divisor(self):
-        for d in [0, -1, -2, -GREATEST, True, False, None, 1.0, "1", (1, 2), [1], {}, Plain(), Broken()]:
+        for d in [0, -1, -2, -GREATEST, True, False, None, 1.0, "1", (1, 2), [1], {}, Agreeing(), Broken()]:
             with self.subTest(kind=d.__class__):
                 self.assertRaises(NoDivisor, number_of, 1, d)
                 self.assertRaises(NoDivisor, number_of, GREATEST, d)

@@ -5,7 +5,7 @@ import unittest
 
 from laterless.errors import NoRule, NoWord
 from laterless.machines import free_rule, is_of
-from parts import Broken, Plain, other_things
+from parts import Agreeing, Broken, other_things
 
 RULE = ("ab", ((0, 1), (0, None)))
 # After each a of a turn it is one state on, and only three of them may follow one another.
@@ -16,7 +16,7 @@ RULES = [
     ("abc", ((1, None, 0), (None, 2, None), (0, 3, 2), (None, None, 3))),
 ]
 NO_WORDS = ["c", "abc", "A", "aB", " ", "a ", "\n", "a\n", "1", "\u00e4", "a" * 1501, "ab" * 1000, "b" * 1501]
-NO_STRINGS = [("a",), ["a"], ["a", "b"], (), [], {}, {"a": 0}, b"", b"a", 0, 1, True, False, 1.5, Plain(), Broken()]
+NO_STRINGS = [("a",), ["a"], ["a", "b"], (), [], {}, {"a": 0}, b"", b"a", 0, 1, True, False, 1.5, Agreeing(), Broken()]
 NO_RULES = [
     ("ab", ((0, 1), (0, 2))), ("ab", ((0, 1), (None, None))), ("ab", ((0, 1), [0, None])), ["ab", ((0, 1), (0, None))],
     ("ba", ((0, 0),)), ("ab", ((0,),)), ("ab", ()), ("ab", ((0, True), (0, 0))), (2, "ab", (((0, 0), (1, 0)),)),
