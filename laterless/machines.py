@@ -71,6 +71,17 @@ def state_after(rule, state, word):
     return state
 
 
+def with_choices(plain):
+    """Return the plain machine with a choice of one pair instead of each pair."""
+    base, letters, states = plain
+    return (base, letters, tuple([tuple([(pair,) for pair in state]) for state in states]))
+
+
+def pays_of(machine):
+    """Return the list of the pays of all pairs, these standing in choices."""
+    return [pair[0] for state in machine[2] for choice in state for pair in choice]
+
+
 def is_letters(thing):
     """Tell whether thing is letters."""
     if type(thing) != str or not 1 <= len(thing) <= MOST_LETTERS:

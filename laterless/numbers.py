@@ -63,3 +63,18 @@ def lowest(n, d):
     """Return n / d, d from 1 on, without a common divisor."""
     common = gcd(n, d)
     return (n // common, d // common)
+
+
+def is_above(a, b):
+    """Tell whether the number a is above the number b."""
+    return a[0] * b[1] > b[0] * a[1]
+
+
+def power(base, many):
+    """Return base ** many, many from 0 on."""
+    found = 1
+    for place in reversed(range(many.bit_length())):
+        found = found * found
+        if many >> place & 1 == 1:
+            found = found * base
+    return found

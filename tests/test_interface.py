@@ -12,6 +12,18 @@ SIGNATURES = {
         "is_machine": "(thing)", "is_plain": "(thing)", "is_rule": "(thing)", "free_rule": "(letters)",
         "is_of": "(rule, word, *, ring=None)",
     },
+    "laterless.rows": {
+        "worth_of": "(machine, row)", "best_way": "(machine, row)", "shows_way": "(machine, row, thing)",
+        "worth_table": "(machine, row)", "shows_worth": "(machine, row, thing)",
+    },
+    "laterless.lacks": {
+        "lacks_after": "(machine, word)", "sum_after": "(machine, word)", "led": "(machine, *, limit=300)",
+        "lacks_of": "(machine, *, limit=300)", "shows_led": "(machine, thing)",
+    },
+    "laterless.leads": {
+        "parted": "(one, other, rule, *, limit=2000)", "levels_of": "(one, other, rule, *, limit=2000)",
+        "shows_levels": "(one, other, rule, thing)", "shows_never": "(one, other, rule, thing)",
+    },
 }
 
 

@@ -1,0 +1,51 @@
+"""What arguments have to be: each function raises the error that is due where one is not so."""
+
+from laterless.errors import NoLimit, NoMachine, NoMatch, NoRow, NoRule, NoWord
+from laterless.machines import is_between, is_machine, is_plain, is_rule, is_text, is_tuple, with_choices
+
+LONGEST_WORD = 300
+
+
+def need_machine(thing, name):
+    """Return the machine that is the argument of this name; a plain one with choices of one pair."""
+    if is_machine(thing):
+        return thing
+    if not is_plain(thing):
+        raise NoMachine(f"{name} is neither a machine nor a plain machine")
+    return with_choices(thing)
+
+
+def need_choices(thing, name):
+    """Raise NoMachine if the argument of this name is no machine, a plain one included."""
+    if not is_machine(thing):
+        raise NoMachine(f"{name} is not a machine with choices")
+
+
+def need_match(one, other):
+    """Raise NoMatch if two machines differ in their bases or letters."""
+    if one[:2] != other[:2]:
+        raise NoMatch("other has not the base and the letters of one")
+
+
+def need_rule(thing, letters):
+    """Raise NoRule if thing is no rule for these letters."""
+    if not is_rule(thing) or thing[0] != letters:
+        raise NoRule("rule is not a rule for these letters")
+
+
+def need_row(thing, letters):
+    """Raise NoRow if thing is no row of these letters."""
+    if not is_tuple(thing, 2, 2) or not all([is_text(part, letters) for part in thing]) or thing[1] == "":
+        raise NoRow("row is not a beginning and a ring of at most 1500 of these letters each")
+
+
+def need_word(thing, letters):
+    """Raise NoWord if thing is no word of these letters."""
+    if not is_text(thing, letters) or len(thing) > LONGEST_WORD:
+        raise NoWord("word is not a string of at most 300 of these letters")
+
+
+def need_limit(thing, most):
+    """Raise NoLimit if thing is no integer from 1 to most."""
+    if not is_between(thing, 1, most):
+        raise NoLimit(f"limit is not an integer from 1 to {most}")
