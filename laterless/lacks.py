@@ -87,7 +87,8 @@ def lacks_on(frame, spread, lacks, at):
 def dicts_of(frame, limit):
     """Return the list of the dicts of lacks that words reach, and the states of the plain machine of them."""
     spread = spread_of(frame)
-    dicts, places = [{0: 0}], {((0, 0),): 0}
+    dicts = [{0: 0}]
+    places = {((0, 0),): 0}
     states = []
     while len(states) < len(dicts):
         lacks = dicts[len(states)]

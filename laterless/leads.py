@@ -2,7 +2,7 @@
 
 from laterless.errors import TooGreat
 from laterless.machines import is_between, is_tuple, pays_of
-from laterless.needs import need_limit, need_machine, need_match, need_rule
+from laterless.needs import need_contest, need_limit
 from laterless.numbers import is_whole
 from laterless.things import is_exactly
 
@@ -63,10 +63,7 @@ def shows_never(one, other, rule, thing):
 
 def contest_of(one, other, rule):
     """Return (base, letters, the states of rule, one and other, over, below); raise the error that is due first."""
-    first = need_machine(one, "one")
-    second = need_machine(other, "other")
-    need_match(first, second)
-    need_rule(rule, first[1])
+    first, second = need_contest(one, other, rule)
     gains, losses = pays_of(first), pays_of(second)
     over = max(0, max(losses) - min(gains))
     below = max(0, max(gains) - min(losses))
@@ -87,6 +84,25 @@ def levels_until_won(contest, limit):
         for standing in level:
             seen[standing] = True
     return levels
+
+
+def standings_from(contest, standings, limit):
+    """Return the list of all standings that can be reached from these ones; those without leads go no further."""
+    reached = list(standings)
+    seen = {standing: True for standing in standings}
+    done = 0
+    while done < len(reached):
+        if len(reached) > limit:
+            raise TooGreat("more standings can be reached than the limit")
+        standing = reached[done]
+        done = done + 1
+        if not is_won(standing):
+            for at in range(len(contest[1])):
+                for later in successors(contest, standing, at):
+                    if later not in seen:
+                        seen[later] = True
+                        reached.append(later)
+    return reached
 
 
 def level_after(contest, level, seen):

@@ -8,6 +8,7 @@ MOST_STATES = 4
 MOST_PLAIN_STATES = 300
 MOST_PAIRS = 3
 MOST_PAY = 20
+MOST_PLAIN_PAY = 10 ** 30
 LONGEST = 1500
 
 
@@ -24,7 +25,7 @@ def is_plain(thing):
     if not is_frame(thing, MOST_PLAIN_STATES):
         return False
     states = thing[2]
-    return all([is_pair(pair, 10 ** 30, len(states)) for state in states for pair in state])
+    return all([is_pair(pair, MOST_PLAIN_PAY, len(states)) for state in states for pair in state])
 
 
 def is_rule(thing):
@@ -95,6 +96,13 @@ def is_text(thing, letters):
     if type(thing) != str or len(thing) > LONGEST:
         return False
     return all([letter in letters for letter in thing])
+
+
+def is_row(thing, letters):
+    """Tell whether thing is a row of these letters."""
+    if not is_tuple(thing, 2, 2) or not all([is_text(part, letters) for part in thing]):
+        return False
+    return thing[1] != ""
 
 
 def is_frame(thing, most):

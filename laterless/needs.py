@@ -1,7 +1,7 @@
 """What arguments have to be: each function raises the error that is due where one is not so."""
 
-from laterless.errors import NoLimit, NoMachine, NoMatch, NoRow, NoRule, NoWord
-from laterless.machines import is_between, is_machine, is_plain, is_rule, is_text, is_tuple, with_choices
+from laterless.errors import NoLimit, NoMachine, NoMatch, NoPlain, NoRow, NoRule, NoState, NoWord
+from laterless.machines import is_between, is_machine, is_plain, is_row, is_rule, is_text, with_choices
 
 LONGEST_WORD = 300
 
@@ -21,10 +21,38 @@ def need_choices(thing, name):
         raise NoMachine(f"{name} is not a machine with choices")
 
 
+def need_plain(thing, name):
+    """Raise NoPlain if the argument of this name is no plain machine."""
+    if not is_plain(thing):
+        raise NoPlain(f"{name} is not a plain machine")
+
+
 def need_match(one, other):
     """Raise NoMatch if two machines differ in their bases or letters."""
     if one[:2] != other[:2]:
-        raise NoMatch("other has not the base and the letters of one")
+        raise NoMatch("other has another base or other letters")
+
+
+def need_contest(one, other, rule):
+    """Return the machines one and other, plain ones with choices of one pair; raise the error that is due first."""
+    first = need_machine(one, "one")
+    second = need_machine(other, "other")
+    need_match(first, second)
+    need_rule(rule, first[1])
+    return (first, second)
+
+
+def need_plains(plain, other):
+    """Raise NoPlain or NoMatch if plain and other are not plain machines of one base and the same letters."""
+    need_plain(plain, "plain")
+    need_plain(other, "other")
+    need_match(plain, other)
+
+
+def need_state(thing, plain, name):
+    """Raise NoState if the argument of this name is no state of the plain machine."""
+    if not is_between(thing, 0, len(plain[2]) - 1):
+        raise NoState(f"{name} is not the number of a state")
 
 
 def need_rule(thing, letters):
@@ -35,7 +63,7 @@ def need_rule(thing, letters):
 
 def need_row(thing, letters):
     """Raise NoRow if thing is no row of these letters."""
-    if not is_tuple(thing, 2, 2) or not all([is_text(part, letters) for part in thing]) or thing[1] == "":
+    if not is_row(thing, letters):
         raise NoRow("row is not a beginning and a ring of at most 1500 of these letters each")
 
 

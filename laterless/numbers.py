@@ -25,7 +25,7 @@ def minus(a, b):
     """Return the number a - b."""
     need_number(a, "a")
     need_number(b, "b")
-    return lowest(a[0] * b[1] - b[0] * a[1], a[1] * b[1])
+    return difference(a, b)
 
 
 def compared(a, b):
@@ -63,6 +63,16 @@ def lowest(n, d):
     """Return n / d, d from 1 on, without a common divisor."""
     common = gcd(n, d)
     return (n // common, d // common)
+
+
+def difference(a, b):
+    """Return the number a - b, for what surely are numbers."""
+    return lowest(a[0] * b[1] - b[0] * a[1], a[1] * b[1])
+
+
+def negative(a):
+    """Return the number -a."""
+    return (-a[0], a[1])
 
 
 def is_above(a, b):

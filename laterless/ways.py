@@ -69,9 +69,7 @@ def ring_worths(base, unit, turns):
 
     turns leads from each state to the dict of sums by states after one turn, unit is base ** turn.
     """
-    plan = {}
-    for state in turns:
-        plan[state] = min(turns[state])
+    plan = {state: min(turns[state]) for state in turns}
     while True:
         worths = plan_worths(base, unit, turns, plan)
         better = better_plan(base, turns, plan, worths)
@@ -100,14 +98,14 @@ def plan_worths(base, unit, turns, plan):
     """Return the dict from states to what is paid if each turn ends in the state that plan tells."""
     worths = {}
     for start in plan:
-        path = []
+        path = {}
         state = start
         while state not in worths and state not in path:
-            path.append(state)
+            path[state] = True
             state = plan[state]
         if state not in worths:
             worths[state] = cycle_worth(base, unit, turns, plan, state)
-        for early in reversed(path):
+        for early in reversed(list(path)):
             if early not in worths:
                 worths[early] = before(base * turns[early][plan[early]], worths[plan[early]], unit)
     return worths

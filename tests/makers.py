@@ -2,6 +2,8 @@
 
 import random
 
+from reckoning import rule_states
+
 # The document's machine, and one for each of its points.
 MACHINE = (2, "ab", ((((0, 0), (1, 1)), ((1, 0),)), (((2, 1),), ((0, 0),))))
 # Whatever way is taken, the worth is the same.
@@ -83,6 +85,27 @@ def row_of(source, letters, most=6):
     return (word_of(source, letters, source.randint(0, most)), word_of(source, letters, source.randint(1, most)))
 
 
+def step(source, rule, state):
+    """A letter that the rule allows in this state, and the state after it."""
+    return source.choice([(letter, to) for letter, to in zip(rule[0], rule[1][state]) if to is not None])
+
+
+def rows_that_begin(source, rule, word, many):
+    """Rows of the rule that begin with the word, and go on at random until a state of the rule comes again."""
+    found = []
+    for _ in range(many):
+        state, text, met = rule_states(rule, word)[-1], word, {}
+        for _ in range(source.randint(0, 4)):
+            letter, state = step(source, rule, state)
+            text += letter
+        while state not in met:
+            met[state] = len(text)
+            letter, state = step(source, rule, state)
+            text += letter
+        found.append((text[:met[state]], text[met[state]:]))
+    return found
+
+
 def spellings(row):
     """The same row, spelt in other ways."""
     beginning, ring = row
@@ -109,3 +132,40 @@ def plains_and_others(name, many):
         else:
             found.append(machine_of(source, base, letters))
     return found
+
+
+def word_of_rule(source, rule, many):
+    """A word of the rule."""
+    state, text = 0, ""
+    for _ in range(many):
+        letter, state = step(source, rule, state)
+        text += letter
+    return text
+
+
+def twins_of(source, plain, many):
+    """The plain machine with so many more states, each paying a constant more than another one for every row."""
+    base, letters, states = plain
+    found = [list(state) for state in states]
+    for _ in range(many):
+        like = source.randrange(len(found))
+        extra = base * source.randint(-3, 3)
+        found.append([(pay + extra, to) for pay, to in found[like]])
+        for state in found:
+            for at, (pay, to) in enumerate(state):
+                if to == like and source.random() < 0.5:
+                    state[at] = (pay - extra // base, len(found) - 1)
+    return (base, letters, tuple([tuple(state) for state in found]))
+
+
+def arena_of(source, many=None, sides=("most", "least"), most=None):
+    """An arena, often with equal pairs."""
+    many = many or source.randint(1, 4)
+    most = most or source.choice([1, 3, 20])
+    states = []
+    for _ in range(many):
+        steps = [(source.randint(-most, most), source.randrange(many)) for _ in range(source.randint(1, 4))]
+        if source.random() < 0.3:
+            steps[-1] = steps[0]
+        states.append((source.choice(sides), tuple(steps)))
+    return (source.randint(2, 9), tuple(states))

@@ -4,11 +4,17 @@ import copy
 import itertools
 import unittest
 
-from laterless.errors import NoLimit, NoMachine, NoMatch, NoRow, NoRule, NoWord, TooGreat
+from laterless.errors import (
+    HasRow, LaterError, NoArena, NoLimit, NoMachine, NoMatch, NoNumber, NoPlain, NoRow, NoRule, NoState, NoWord, TooGreat,
+)
+from laterless.games import plan_of, shows_game, values_of
 from laterless.lacks import lacks_after, lacks_of, led, shows_led, sum_after
 from laterless.leads import levels_of, parted, shows_levels, shows_never
+from laterless.least import least_of, like_by, same_table, shows_same, unlike
+from laterless.lefts import bars_of, row_with, shows_none
 from laterless.machines import free_rule
 from laterless.rows import best_way, shows_way, shows_worth, worth_of, worth_table
+from laterless.spans import apart, apart_table, shows_apart, span
 from makers import EXACT, MACHINE, TIES, machine_of, plain_of, rule_of, series, wheel
 from parts import Agreeing, Broken, listed, other_things
 
@@ -17,6 +23,11 @@ OTHER = (2, "ab", ((((1, 1), (0, 1)), ((1, 0),)), (((0, 1),), ((2, 0),))))
 RULE = ("ab", ((0, 1), (0, None)))
 ROW = ("ba", "ab")
 WHEELS = (wheel(2, 69), wheel(2, 29), free_rule("a"))
+# The same worth for every row: state 2 pays 6 more, and each step to it 3 less.
+TWIN = (2, "ab", (((1, 1), (1, 0)), ((-1, 2), (0, 0)), ((5, 2), (6, 0))))
+ARENA = (2, (("most", ((1, 1), (0, 0))), ("least", ((0, 0), (3, 1)))))
+# There is no row of this rule with this number, and there are 4 places.
+SEARCH = ((2, "ab", (((0, 0), (1, 0)),)), ("ab", ((0, None),)), (1, 4))
 
 # Functions with right arguments, in their order; those behind None are keywords alone.
 CALLS = {
@@ -34,6 +45,22 @@ CALLS = {
     levels_of: {"one": MACHINE, "other": OTHER, "rule": RULE, "limit": 50},
     shows_levels: {"one": MACHINE, "other": OTHER, "rule": RULE, "thing": levels_of(MACHINE, OTHER, RULE)},
     shows_never: {"one": MACHINE, "other": OTHER, "rule": RULE, "thing": [(0, 0, ((0, 0),))]},
+    apart: {"one": MACHINE, "other": OTHER, "rule": RULE, "limit": 50},
+    apart_table: {"one": MACHINE, "other": OTHER, "rule": RULE, "limit": 50},
+    shows_apart: {"one": MACHINE, "other": OTHER, "rule": RULE,
+                  "thing": (*apart(MACHINE, OTHER, RULE), apart_table(MACHINE, OTHER, RULE))},
+    span: {"machine": MACHINE, "rule": RULE, "word": "aba"},
+    like_by: {"plain": PLAIN, "p": 1, "q": 2},
+    least_of: {"plain": PLAIN},
+    unlike: {"plain": PLAIN, "other": TWIN},
+    same_table: {"plain": PLAIN, "other": TWIN, "limit": 50},
+    shows_same: {"plain": PLAIN, "other": TWIN, "thing": same_table(PLAIN, TWIN)},
+    row_with: dict(zip(["plain", "rule", "number", "limit"], [*SEARCH, 50])),
+    bars_of: dict(zip(["plain", "rule", "number", "limit"], [*SEARCH, 50])),
+    shows_none: dict(zip(["plain", "rule", "number", "thing"], [*SEARCH, bars_of(*SEARCH)])),
+    values_of: {"arena": ARENA},
+    plan_of: {"arena": ARENA},
+    shows_game: {"arena": ARENA, "thing": (values_of(ARENA), plan_of(ARENA))},
 }
 
 NO_MACHINES = [
@@ -68,6 +95,24 @@ NO_MATCHES = [
 ]
 
 
+NO_PLAINS = [MACHINE, OTHER, listed(PLAIN), list(PLAIN), PLAIN[:2], (2, "ab", PLAIN[2] * 101), (2, "ab", PLAIN[2][:1])]
+NO_NUMBERS = [
+    (2, 4), (0, 2), (1, 0), (1, -1), (-1, -2), (1,), (1, 2, 3), [1, 4], "1/4", "14", (True, 4), (1, True), (1.0, 4),
+    (1, 4.0), (1, None), ((1, 4),), 0.25, 1, 0, {1: 4}, ("1", 4), (1, (4,)),
+]
+NO_STATES = [-1, 3, 300, 10 ** 60, "1", (1,), [1], 1.0, True, False, None, b"1"]
+NO_ARENAS = [
+    listed(ARENA), (2,), (1, ARENA[1]), (10, ARENA[1]), (True, ARENA[1]), (2, ()), (2, ARENA[1] * 7), (2, ARENA[1][:1]),
+    (2, (("both", ((0, 0),)),)), (2, (("most", ()),)), (2, (("most", ((0, 0),) * 5),)), (2, (("most", ((21, 0),)),)),
+    (2, (("most", ((0, 1),)),)), (2, (("most", ((False, 0),)),)), (2, ((b"most", ((0, 0),)),)), MACHINE, PLAIN, RULE,
+]
+
+
+def not_integers(things):
+    """Those of the things that are no integers; some are numbers of states."""
+    return [thing for thing in things if type(thing) is not int]
+
+
 def not_strings(things):
     """Those of the things that are no words; the empty string is one."""
     return [thing for thing in things if type(thing) is not str or thing != ""]
@@ -86,10 +131,27 @@ WRONG = {
     "row": [(thing, NoRow) for thing in NO_ROWS + other_things()],
     "word": [(thing, NoWord) for thing in NO_WORDS + not_strings(other_things())],
     "limit": [(thing, NoLimit) for thing in NO_LIMITS + not_limits(other_things())],
+    "plain": [(thing, NoPlain) for thing in NO_MACHINES + NO_PLAINS + other_things()],
+    "p": [(thing, NoState) for thing in NO_STATES + not_integers(other_things())],
+    "q": [(thing, NoState) for thing in NO_STATES + not_integers(other_things())],
+    "number": [(thing, NoNumber) for thing in NO_NUMBERS + other_things()],
+    "arena": [(thing, NoArena) for thing in NO_ARENAS + other_things()],
 }
+# Beside plain, other is a plain machine, too.
+NO_OTHER = WRONG["plain"] + [(thing, NoMatch) for thing in [(3, *PLAIN[1:]), (2, "ac", PLAIN[2]), wheel(2, 3)]]
 # A machine of one kind only is asked for.
 PAIRED = [best_way, shows_way]
-GREATEST = {led: 300, lacks_of: 300, parted: 2000, levels_of: 2000}
+GREATEST = {
+    led: 300, lacks_of: 300, parted: 2000, levels_of: 2000, apart: 600, apart_table: 600, same_table: 600, row_with: 600,
+    bars_of: 600,
+}
+
+
+def wrong_ones(function, name):
+    """Values that the argument of this name may not have, each with the error that is due."""
+    if name == "other" and "plain" in CALLS[function]:
+        return NO_OTHER
+    return WRONG.get(name, [])
 
 
 def call(function, arguments):
@@ -125,7 +187,7 @@ class ErrorsTest(unittest.TestCase):
     def test_each_argument(self):
         for function, arguments in CALLS.items():
             for name in arguments:
-                for place, (wrong, error) in enumerate(WRONG.get(name, [])):
+                for place, (wrong, error) in enumerate(wrong_ones(function, name)):
                     with self.subTest(function.__name__, name=name, place=place):
                         self.check(error, function, {**arguments, name: wrong})
 
@@ -138,15 +200,17 @@ class ErrorsTest(unittest.TestCase):
                 for name in ["machine", "one", "other"]:
                     if name in arguments:
                         call(function, {**arguments, name: PLAIN})
+        for function in [like_by, least_of, unlike, same_table]:
+            self.check(NoPlain, function, {**CALLS[function], "plain": MACHINE})
 
     def test_several_at_once(self):
         source = series("several")
         for function, arguments in CALLS.items():
-            names = [name for name in arguments if name in WRONG]
+            names = [name for name in arguments if wrong_ones(function, name)]
             for many in range(2, len(names) + 1):
                 for among in itertools.combinations(names, many):
                     for _ in range(20):
-                        changed = {name: source.choice(WRONG[name]) for name in among}
+                        changed = {name: source.choice(wrong_ones(function, name)) for name in among}
                         first = changed[among[0]]
                         wrong = {name: changed[name][0] for name in among}
                         self.check(first[1], function, {**arguments, **wrong})
@@ -155,7 +219,7 @@ class ErrorsTest(unittest.TestCase):
         for function, arguments in CALLS.items():
             if "thing" in arguments:
                 for name in arguments:
-                    for wrong, error in WRONG.get(name, [])[:3]:
+                    for wrong, error in wrong_ones(function, name)[:3]:
                         for thing in [None, Broken(), Agreeing(), [], ()]:
                             self.check(error, function, {**arguments, name: wrong, "thing": thing})
 
@@ -220,6 +284,24 @@ class ErrorsTest(unittest.TestCase):
             for wrong in [free_rule("b"), free_rule("ab"), None, ("a", ((1,),))]:
                 self.check(NoRule, function, {**dict(zip(names, WHEELS)), "rule": wrong})
 
+    def test_words_of_the_rule_come_last(self):
+        barred = {"machine": EXACT[301], "rule": ("abc", ((0, None, 0),)), "word": "ab"}
+        self.check(NoWord, span, barred)
+        self.check(TooGreat, span, {**barred, "word": "ac"})
+        self.check(NoRule, span, {**barred, "rule": ("ab", ((0, None),))})
+
+    def test_has_row_comes_after_too_great(self):
+        other = (2, "ab", (((1, 1), (1, 0)), ((2, 2), (0, 0)), ((2, 2), (1, 0))))
+        self.check(HasRow, same_table, {"plain": PLAIN, "other": other, "limit": 3})
+        self.check(TooGreat, same_table, {"plain": PLAIN, "other": other, "limit": 2})
+        found = {"plain": SEARCH[0], "rule": SEARCH[1], "number": (0, 1), "limit": 1}
+        self.check(HasRow, bars_of, found)
+        self.assertEqual(call(row_with, found), ("", "a"))
+        self.check(TooGreat, bars_of, {**found, "rule": free_rule("ab"), "number": (2, 3)})
+        for wrong, error in WRONG["limit"] + [(601, NoLimit)]:
+            self.check(error, bars_of, {**found, "limit": wrong})
+            self.check(error, same_table, {"plain": PLAIN, "other": other, "limit": wrong})
+
     def test_shows_raise_nothing_that_is_too_great(self):
         self.assertIs(shows_led(EXACT[301], (led(MACHINE), lacks_of(MACHINE))), False)
         self.assertIs(shows_levels(*WHEELS, [[(0, 0, ((0, 0),))]]), False)
@@ -248,6 +330,11 @@ class ErrorsTest(unittest.TestCase):
         self.assertRaises(TypeError, lacks_of, MACHINE, 300)
         self.assertRaises(TypeError, parted, MACHINE, OTHER, RULE, 2000)
         self.assertRaises(TypeError, levels_of, MACHINE, OTHER, RULE, 2000)
+        self.assertRaises(TypeError, apart, MACHINE, OTHER, RULE, 600)
+        self.assertRaises(TypeError, apart_table, MACHINE, OTHER, RULE, 600)
+        self.assertRaises(TypeError, same_table, PLAIN, TWIN, 600)
+        self.assertRaises(TypeError, row_with, *SEARCH, 600)
+        self.assertRaises(TypeError, bars_of, *SEARCH, 600)
 
     def test_wrong_arguments_are_as_before(self):
         for function, arguments in CALLS.items():
@@ -256,7 +343,7 @@ class ErrorsTest(unittest.TestCase):
                 before = repr(wrong)
                 try:
                     call(function, wrong)
-                except (NoMachine, NoRule, NoRow, NoLimit):
+                except LaterError:
                     pass
                 self.assertEqual(repr(wrong), before)
 

@@ -24,6 +24,45 @@ SIGNATURES = {
         "parted": "(one, other, rule, *, limit=2000)", "levels_of": "(one, other, rule, *, limit=2000)",
         "shows_levels": "(one, other, rule, thing)", "shows_never": "(one, other, rule, thing)",
     },
+    "laterless.spans": {
+        "apart": "(one, other, rule, *, limit=600)", "apart_table": "(one, other, rule, *, limit=600)",
+        "shows_apart": "(one, other, rule, thing)", "span": "(machine, rule, word='')",
+    },
+    "laterless.least": {
+        "like_by": "(plain, p, q)", "least_of": "(plain)", "unlike": "(plain, other)",
+        "same_table": "(plain, other, *, limit=600)", "shows_same": "(plain, other, thing)",
+    },
+    "laterless.lefts": {
+        "row_with": "(plain, rule, number, *, limit=600)", "bars_of": "(plain, rule, number, *, limit=600)",
+        "shows_none": "(plain, rule, number, thing)",
+    },
+    "laterless.games": {
+        "is_arena": "(thing)", "values_of": "(arena)", "plan_of": "(arena)", "shows_game": "(arena, thing)",
+    },
+    "laterless.races": {
+        "trial": "(runner, things)",
+    },
+}
+CLASSES = {
+    ("laterless.worths", "Worth"): {
+        "__init__": "(self, machine)", "plain": "(self)", "most": "(self, rule)", "least": "(self, rule)",
+        "within": "(self, other)", "below": "(self, other)", "__call__": "(self, row)", "__contains__": "(self, number)",
+        "__eq__": "(self, other)", "__neg__": "(self)", "__add__": "(self, other)", "__radd__": "(self, other)",
+        "__sub__": "(self, other)", "__rsub__": "(self, other)", "__mul__": "(self, other)", "__rmul__": "(self, other)",
+        "__or__": "(self, other)", "__and__": "(self, other)", "__rshift__": "(self, other)",
+        "__iadd__": "(self, other)", "__isub__": "(self, other)", "__imul__": "(self, other)",
+        "__ior__": "(self, other)", "__iand__": "(self, other)", "__irshift__": "(self, other)",
+    },
+    ("laterless.walks", "Walk"): {
+        "__init__": "(self, machine, rule)", "read": "(self, letter)", "undo": "(self)", "word": "(self)",
+        "lacks": "(self)", "total": "(self)", "span": "(self)", "sure": "(self, number)", "__len__": "(self)",
+        "__enter__": "(self)", "__exit__": "(self, kind, value, trace)",
+    },
+    ("laterless.races", "Race"): {
+        "__init__": "(self, one, other, rule, *, limit=2000)", "read": "(self, letter)", "undo": "(self)",
+        "word": "(self)", "standings": "(self)", "state": "(self)", "__len__": "(self)", "__enter__": "(self)",
+        "__exit__": "(self, kind, value, trace)",
+    },
 }
 
 
@@ -36,6 +75,21 @@ class InterfaceTest(unittest.TestCase):
                     self.assertTrue(inspect.isfunction(function))
                     self.assertEqual(function.__module__, module)
                     self.assertEqual(str(inspect.signature(function)), signature)
+
+    def test_classes(self):
+        for (module, name), methods in CLASSES.items():
+            kind = getattr(importlib.import_module(module), name)
+            self.assertEqual([kind.__module__, kind.__bases__], [module, (object,)])
+            for method, signature in methods.items():
+                with self.subTest(name, method=method):
+                    # In the class itself, not in one that it is derived from.
+                    self.assertTrue(inspect.isfunction(vars(kind)[method]))
+                    self.assertEqual(str(inspect.signature(vars(kind)[method])), signature)
+
+    def test_properties(self):
+        kind = importlib.import_module("laterless.worths").Worth
+        for name in ["base", "letters", "states"]:
+            self.assertIsInstance(vars(kind)[name], property)
 
 
 if __name__ == "__main__":

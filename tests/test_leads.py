@@ -9,8 +9,8 @@ from laterless.lacks import led
 from laterless.leads import levels_of, parted, shows_never
 from laterless.machines import free_rule, is_of
 from laterless.rows import worth_of
-from makers import MACHINE, TIES, machine_of, plain_of, rule_of, series, wheel
-from reckoning import levels, rule_states, standings, words
+from makers import MACHINE, TIES, machine_of, plain_of, rows_that_begin, rule_of, series, wheel
+from reckoning import levels, standings, words
 
 FIRST = (0, 0, ((0, 0),))
 NONE = (2, "ab", (((0, 0), (0, 0)),))
@@ -44,27 +44,6 @@ def told_contests(name, many, most=None):
 
 def is_won(told):
     return any(standing[2] == () for standing in told[-1])
-
-
-def step(source, rule, state):
-    """A letter that the rule allows in this state, and the state after it."""
-    return source.choice([(letter, to) for letter, to in zip(rule[0], rule[1][state]) if to is not None])
-
-
-def rows_that_begin(source, rule, word, many):
-    """Rows of the rule that begin with the word, and go on at random until a state of the rule comes again."""
-    found = []
-    for _ in range(many):
-        state, text, met = rule_states(rule, word)[-1], word, {}
-        for _ in range(source.randint(0, 4)):
-            letter, state = step(source, rule, state)
-            text += letter
-        while state not in met:
-            met[state] = len(text)
-            letter, state = step(source, rule, state)
-            text += letter
-        found.append((text[:met[state]], text[met[state]:]))
-    return found
 
 
 class PartedTest(unittest.TestCase):
