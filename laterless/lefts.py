@@ -100,17 +100,24 @@ def is_within(base, low, high, number):
 
 def ranks_of(graph):
     """Return the dict from the places to their ranks, without those from which one can go on for ever."""
+    ahead = {}
+    for place in graph:
+        ahead[place] = []
+    for place in graph:
+        for _, later in graph[place]:
+            ahead[later].append(place)
+    open_steps = {place: len(graph[place]) for place in graph}
     ranks = {}
-    rank = 0
-    waiting = list(graph)
-    while waiting:
-        done = [place for place in waiting if all([later in ranks for _, later in graph[place]])]
-        if not done:
-            return ranks
-        for place in done:
-            ranks[place] = rank
-        rank = rank + 1
-        waiting = [place for place in waiting if place not in ranks]
+    waiting = [place for place in graph if open_steps[place] == 0]
+    done = 0
+    while done < len(waiting):
+        place = waiting[done]
+        done = done + 1
+        ranks[place] = max([1 + ranks[later] for _, later in graph[place]], default=0)
+        for early in ahead[place]:
+            open_steps[early] = open_steps[early] - 1
+            if open_steps[early] == 0:
+                waiting.append(early)
     return ranks
 
 

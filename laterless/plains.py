@@ -61,9 +61,7 @@ def lifted(plain, more):
     if more == 0:
         return plain
     first = tuple([(pay + more, to) for pay, to in states[0]])
-    if not any([to == 0 for state in states for _, to in state]):
-        return fitting((base, letters, (first,) + states[1:]))
-    # The old first state stays, for the words that come back to it.
+    # The old first state stays behind for the words that come back to it; without such it is not reached any more.
     return begun(fitting((base, letters, states + (first,))), len(states))
 
 
@@ -133,10 +131,7 @@ def greater_step(plain, other, over, place, at):
 
 
 def fitting(plain):
-    """Return plain if it is small enough to be a plain machine."""
-    states = plain[2]
-    if len(states) > MOST_PLAIN_STATES:
-        raise TooGreat("a machine would have more than 300 states")
-    if not all([abs(pay) <= MOST_PLAIN_PAY for state in states for pay, _ in state]):
+    """Return plain if none of its pays is too great for a plain machine."""
+    if not all([abs(pay) <= MOST_PLAIN_PAY for state in plain[2] for pay, _ in state]):
         raise TooGreat("a machine would have a pay more than 10 ** 30 from 0")
     return plain

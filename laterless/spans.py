@@ -37,13 +37,13 @@ def shows_apart(one, other, rule, thing):
         return False
     if type(table) != list or not all([is_told(part) for part in table]):
         return False
-    worths = {part[:3]: part[3] for part in table}
-    if len(worths) != len(table) or difference(worth_along(first, row), worth_along(second, row)) != number:
+    if difference(worth_along(first, row), worth_along(second, row)) != number:
         return False
     try:
         graph = triples_from(first, led(other), rule, FIRST, len(table))
     except TooGreat:
         return False
+    worths = {part[:3]: part[3] for part in table}
     if len(graph) != len(table) or not all([triple in worths for triple in graph]):
         return False
     # These equations have one solution only.

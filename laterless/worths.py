@@ -61,8 +61,8 @@ class Worth:
     def __call__(self, row):
         return worth_of(self._plain, row)
 
-    def __contains__(self, number):
-        return is_number(number) and row_with(self._plain, free_rule(self._plain[1]), number) is not None
+    def __contains__(self, x):
+        return is_number(x) and row_with(self._plain, free_rule(self._plain[1]), x) is not None
 
     def __eq__(self, other):
         if not isinstance(other, Worth) or self._plain[:2] != other._plain[:2]:

@@ -5,7 +5,8 @@ import itertools
 import unittest
 
 from laterless.errors import (
-    HasRow, LaterError, NoArena, NoLimit, NoMachine, NoMatch, NoNumber, NoPlain, NoRow, NoRule, NoState, NoWord, TooGreat,
+    HasRow, LaterError, NoArena, NoLimit, NoMachine, NoMatch, NoNumber, NoPlain, NoRow, NoRule, NoState, NoWord,
+    TooGreat,
 )
 from laterless.games import plan_of, shows_game, values_of
 from laterless.lacks import lacks_after, lacks_of, led, shows_led, sum_after
@@ -142,8 +143,8 @@ NO_OTHER = WRONG["plain"] + [(thing, NoMatch) for thing in [(3, *PLAIN[1:]), (2,
 # A machine of one kind only is asked for.
 PAIRED = [best_way, shows_way]
 GREATEST = {
-    led: 300, lacks_of: 300, parted: 2000, levels_of: 2000, apart: 600, apart_table: 600, same_table: 600, row_with: 600,
-    bars_of: 600,
+    led: 300, lacks_of: 300, parted: 2000, levels_of: 2000, apart: 600, apart_table: 600, same_table: 600,
+    row_with: 600, bars_of: 600,
 }
 
 

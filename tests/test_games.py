@@ -38,10 +38,12 @@ class ArenaTest(unittest.TestCase):
     def test_bounds(self):
         good = ("most", ((0, 0),))
         for wrong in [
-            (1, (good,)), (10, (good,)), (0, (good,)), (-2, (good,)), (2, ()), (2, (good,) * 13), (2, (("both", ((0, 0),)),)),
+            (1, (good,)), (10, (good,)), (0, (good,)), (-2, (good,)), (2, ()), (2, (good,) * 13),
+            (2, (("both", ((0, 0),)),)),
             (2, (("Most", ((0, 0),)),)), (2, (("", ((0, 0),)),)), (2, (("most", ()),)), (2, (("most", ((0, 0),) * 5),)),
             (2, (("most", ((21, 0),)),)), (2, (("most", ((-21, 0),)),)), (2, (("most", ((0, 1),)),)),
-            (2, (("most", ((0, -1),)),)), (2, (("most", ((0, 0, 0),)),)), (2, (("most", ((0,),)),)), (2,), (2, (good,), 2),
+            (2, (("most", ((0, -1),)),)), (2, (("most", ((0, 0, 0),)),)), (2, (("most", ((0,),)),)), (2,),
+            (2, (good,), 2),
             ((good,), 2), (2, good), (2, (("most",),)), (2, (("most", ((0, 0),), 1),)), (2, ((("most",), ((0, 0),)),)),
             (2, (good, good, ("least", ((0, 3),)))), (2, (("mos", ((0, 0),)),)), (2, (("moste", ((0, 0),)),)),
         ]:
@@ -108,7 +110,8 @@ class ValuesTest(unittest.TestCase):
             self.assertEqual([number(value) for value in held(*arena, plan_of(arena))], values_of(arena))
 
     def test_twelve_states(self):
-        states = tuple([("most" if at % 2 else "least", ((20, (at + 1) % 12), (-20, (at + 5) % 12))) for at in range(12)])
+        states = tuple([
+            ("most" if at % 2 else "least", ((20, (at + 1) % 12), (-20, (at + 5) % 12))) for at in range(12)])
         for base in range(2, 10):
             values = [fraction(value) for value in values_of((base, states))]
             for state, (side, _) in enumerate(states):
@@ -161,10 +164,22 @@ class ShowsGameTest(unittest.TestCase):
             more = [number(fraction(value) + 1) for value in values]
             self.assertIs(shows_game(arena, (more, plan)), False)
 
+    def test_values_of_plans_that_are_not_best(self):
+        wrong = 0
+        for arena in arenas("not best", 60):
+            values = values_of(arena)
+            for plan in itertools.islice(itertools.product(*[range(len(steps)) for _, steps in arena[1]]), 60):
+                # What is paid if both keep to the plan solves the equations of its pairs, but not of all others.
+                told = [number(value) for value in held(*arena, plan)]
+                wrong += told != values
+                self.assertIs(shows_game(arena, (told, list(plan))), told == values)
+        self.assertGreater(wrong, 100)
+
     def test_members_left_out_and_put_in(self):
         values, plan = values_of(ARENA), plan_of(ARENA)
         for thing in [(values[:1], plan), (values, plan[:1]), (values[:1], plan[:1]), (values + values[:1], plan),
-                      (values, plan + [0]), ([], []), (values, []), (values[::-1], plan), (values, plan, plan), (values,),
+                      (values, plan + [0]), ([], []), (values, []), (values[::-1], plan), (values, plan, plan),
+                      (values,),
                       (plan, values), [values, plan], (tuple(values), plan), (values, tuple(plan)),
                       (dict(enumerate(values)), plan), (values, dict(enumerate(plan))), values, plan]:
             self.assertIs(shows_game(ARENA, thing), False)

@@ -46,9 +46,10 @@ SIGNATURES = {
 CLASSES = {
     ("laterless.worths", "Worth"): {
         "__init__": "(self, machine)", "plain": "(self)", "most": "(self, rule)", "least": "(self, rule)",
-        "within": "(self, other)", "below": "(self, other)", "__call__": "(self, row)", "__contains__": "(self, number)",
+        "within": "(self, other)", "below": "(self, other)", "__call__": "(self, row)", "__contains__": "(self, x)",
         "__eq__": "(self, other)", "__neg__": "(self)", "__add__": "(self, other)", "__radd__": "(self, other)",
-        "__sub__": "(self, other)", "__rsub__": "(self, other)", "__mul__": "(self, other)", "__rmul__": "(self, other)",
+        "__sub__": "(self, other)", "__rsub__": "(self, other)", "__mul__": "(self, other)",
+        "__rmul__": "(self, other)",
         "__or__": "(self, other)", "__and__": "(self, other)", "__rshift__": "(self, other)",
         "__iadd__": "(self, other)", "__isub__": "(self, other)", "__imul__": "(self, other)",
         "__ior__": "(self, other)", "__iand__": "(self, other)", "__irshift__": "(self, other)",

@@ -36,6 +36,12 @@ def same_ones(name, many):
     return found
 
 
+def late(many):
+    """A plain machine that goes round many states, and pays for b in the last one alone."""
+    ahead = tuple([((0, at + 1), (0, at + 1)) for at in range(many - 1)])
+    return (2, "ab", ahead + (((0, 0), (1, 0)),))
+
+
 def closed(plain, other, pairs):
     """The pairs with what follows from them; None if there is a second tuple for some pair."""
     found = list(pairs)
@@ -93,7 +99,7 @@ class LikeByTest(unittest.TestCase):
 
     def test_differences_far_behind(self):
         # The states differ after 299 letters at the earliest.
-        plain = (2, "ab", tuple([((0, (at + 1) % 300), (0, (at + 1) % 300)) for at in range(299)]) + (((0, 0), (1, 0)),))
+        plain = late(300)
         self.assertIs(like_by(plain, 0, 1), None)
         self.assertEqual(like_by(plain, 7, 7), (0, 1))
         self.assertEqual(like_by(wheel(9, 298), 0, 297), (0, 1))
@@ -148,7 +154,7 @@ class LeastOfTest(unittest.TestCase):
             self.assertEqual(least_of(plain), least_of(other))
 
     def test_hundreds_of_states(self):
-        plain = (2, "ab", tuple([((0, (at + 1) % 300), (0, (at + 1) % 300)) for at in range(299)]) + (((0, 0), (1, 0)),))
+        plain = late(300)
         self.assertEqual(len(least_of(plain)[3]), 300)
         self.assertEqual(least_of(wheel(2, 298)), ((0, 1), 2, "a", ((((0, 1), 0),),)))
 
@@ -205,12 +211,11 @@ class UnlikeTest(unittest.TestCase):
                 self.check(one, wrong, unlike(one, wrong))
 
     def test_far_behind(self):
-        one = (2, "ab", tuple([((0, (at + 1) % 300), (0, (at + 1) % 300)) for at in range(299)]) + (((0, 0), (1, 0)),))
-        two = (2, "ab", tuple([((0, (at + 1) % 299), (0, (at + 1) % 299)) for at in range(298)]) + (((0, 0), (1, 0)),))
+        one, two = late(300), late(299)
         self.check(one, two, unlike(one, two))
         self.check(two, one, unlike(two, one))
-        late = (2, "ab", two[2][:-1] + (((0, 0), (0, 0)),))
-        self.check(two, late, unlike(two, late))
+        nothing = (2, "ab", two[2][:-1] + (((0, 0), (0, 0)),))
+        self.check(two, nothing, unlike(two, nothing))
         self.assertIs(unlike(one, one), None)
 
 
@@ -303,9 +308,20 @@ class ShowsSameTest(unittest.TestCase):
             ([(0, 0, 0), (1, 1, 3)], False), ([(0, 0, 0), (1, 1, 4), (1, 1, 4)], False), ([(1, 1, 4)], False),
             ([(0, 0, 0), (1, 1, 4), (1, 1, 5)], False), ([(0, 0, 1)], False), ([(0, 0, 0), (2, 1, 4)], False),
             ([(0, 0, 0), (1, 3, 0)], False), ([(0, 0, 0), (-1, 2, 0)], False), ([(0, 0, 0), (1, -1, 0)], False),
-            ([(0, 0, 0), (0, 2, -2)], False), ([], False), ([(0, 0, 0), (0, 1, 6)], True), ([(0, 0, 0), (0, 1, 5)], False),
+            ([(0, 0, 0), (0, 2, -2)], False), ([], False), ([(0, 0, 0), (0, 1, 6)], True),
+            ([(0, 0, 0), (0, 1, 5)], False),
         ]:
             self.assertIs(shows_same(one, other, thing), right)
+        # The last states, counted from behind.
+        for wrong in [(-1, 2, 0), (1, -1, 0), (-1, -1, 0)]:
+            self.assertIs(shows_same(one, other, [(0, 0, 0), (1, 2, 0), wrong]), False)
+
+    def test_a_constant_more(self):
+        # One pays 1 more for the one row there is, and nothing else is wrong with these lists.
+        one, other = (2, "a", (((1, 1),), ((0, 1),))), (2, "a", (((0, 0),),))
+        self.assertIs(shows_same(one, other, [(0, 0, -1), (1, 0, 0)]), False)
+        self.assertIs(shows_same(other, one, [(0, 0, 1), (0, 1, 0)]), False)
+        self.assertRaises(HasRow, same_table, one, other)
 
     def test_tuples_changed(self):
         for plain, other in same_ones("changed", 50):

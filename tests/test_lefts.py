@@ -8,7 +8,7 @@ from laterless.errors import HasRow, TooGreat
 from laterless.lefts import bars_of, row_with, shows_none
 from laterless.machines import free_rule, is_of
 from laterless.rows import worth_of
-from makers import plain_of, rows_that_begin, rule_of, series, wheel
+from makers import plain_of, rows_that_begin, rule_of, series
 from parts import Agreeing, Broken, listed, of_other_kinds, other_things, part_at, paths_of, put
 from reckoning import number, words
 from slow import fraction, places, plain_worth, ranks, sum_along
@@ -263,6 +263,7 @@ class ShowsNoneTest(unittest.TestCase):
                         changed = bars[:at] + [put(part, path, [wrong])] + bars[at + 1:]
                         self.assertIs(shows_none(*NONE, changed), False)
                 self.assertIs(shows_none(*NONE, bars[:at] + [put(part, path, [])] + bars[at + 1:]), False)
+                self.assertIs(shows_none(*NONE, bars[:at] + [(*part, part[3])] + bars[at + 1:]), False)
                 again = [part_at(part, path)] * 2
                 self.assertIs(shows_none(*NONE, bars[:at] + [put(part, path, again)] + bars[at + 1:]), False)
 

@@ -13,7 +13,7 @@ from laterless.rows import worth_of
 from laterless.spans import apart
 from laterless.walks import Walk
 from laterless.worths import Worth
-from makers import EXACT, MACHINE, TIES, machine_of, rows_that_begin, rule_of, series, step, wheel, word_of_rule
+from makers import EXACT, MACHINE, TIES, machine_of, rows_that_begin, series, step, wheel, word_of_rule
 from parts import Agreeing, Broken, listed, other_things
 from reckoning import standings, words
 from slow import fraction
@@ -469,8 +469,8 @@ class TrialTest(unittest.TestCase):
         for runner in self.runners():
             before = runner.word()
             for thing in other_things() + ["ab", "a", ("a",), {"a": 1}, [("a",)], ["a", None], ["a", 1], ["a", b"a"],
-                                           ["a", ["a", ("a",)]], [["a"], True], ["a", {"a": 1}], [Broken()], [Agreeing()],
-                                           ["c", None], ["-", ["-", None]]]:
+                                           ["a", ["a", ("a",)]], [["a"], True], ["a", {"a": 1}], [Broken()],
+                                           [Agreeing()], ["c", None], ["-", ["-", None]]]:
                 if not (type(thing) is list and len(thing) == 0) and repr(thing) != "[[]]":
                     self.assertRaises(NoThings, trial, runner, thing)
             self.assertEqual(runner.word(), before)
@@ -488,7 +488,7 @@ class TrialTest(unittest.TestCase):
             for things, error in [
                 (["c"], NoLetter), (["a", ""], NoLetter), (["a", "aa"], NoLetter), (["-", "-"], NoUndo),
                 (["a", ["-", "-", "-"]], NoUndo), (["A"], NoLetter), (["--"], NoLetter), (["-", "-", "c"], NoUndo),
-                (["a", ["c", "-"], "-", "-", "-"], NoLetter), ([["-"], ["-", "-"]], NoUndo), (["a" for _ in range(300)], NoWord),
+                (["a", ["c", "-"], "-", "-", "-"], NoLetter), ([["-"], ["-", "-"]], NoUndo), (["a"] * 300, NoWord),
                 (["a", [["-", ["a", "c"]]]], NoLetter), (["c", "-", "-"], NoLetter), ([[[[["-", "-"]]]]], NoUndo),
             ]:
                 self.assertRaises(error, trial, runner, things)

@@ -141,6 +141,16 @@ class ShowsApartTest(unittest.TestCase):
                 self.assertIs(shows_apart(one, other, rule, (told_number, drawn, table)), right)
         self.assertGreater(reached, 20)
 
+    def test_rows_that_reach_less(self):
+        source, less = series("less"), 0
+        for one, other, rule in contests("less", 60):
+            told_number, _, table = told((one, other, rule))
+            for drawn in rows_that_begin(source, rule, "", 6):
+                above = number(plain_worth(led(one), drawn) - plain_worth(led(other), drawn))
+                less += above != told_number
+                self.assertIs(shows_apart(one, other, rule, (above, drawn, table)), above == told_number)
+        self.assertGreater(less, 60)
+
     def test_a_row_that_the_rule_bars(self):
         rule = ("ab", ((0, None),))
         table = apart_table(NONE, NONE, rule)
@@ -154,8 +164,8 @@ class ShowsApartTest(unittest.TestCase):
         for row in [("a" * 1500, "b" * 1500), ("", "ab"), ("abba", "b")]:
             self.assertIs(shows_apart(NONE, NONE, rule, ((0, 1), row, table)), True)
         for row in [("a" * 1501, "b"), ("a", "b" * 1501), ("", ""), ("a", ""), ("", "c"), ("c", "a"), ["", "a"], "a",
-                    ("a",), ("", "a", ""), ("", b"a"), (("",), "a"), ("", ("a",)), ("", "A"), None, Broken(), Agreeing(),
-                    ("", Agreeing()), (Broken(), "a"), ("", ["a"])]:
+                    ("a",), ("", "a", ""), ("", b"a"), (("",), "a"), ("", ("a",)), ("", "A"), None, Broken(),
+                    Agreeing(), ("", Agreeing()), (Broken(), "a"), ("", ["a"])]:
             self.assertIs(shows_apart(NONE, NONE, rule, ((0, 1), row, table)), False)
 
     def test_numbers_changed(self):
@@ -214,6 +224,9 @@ class ShowsApartTest(unittest.TestCase):
                       (told_number, row, {part[:3]: part[3] for part in table}), listed((told_number, row)) + [table]]:
             self.assertIs(shows_apart(*contest, thing), False)
         for at, part in enumerate(table):
+            for wrong in [(*part, 0), (*part, part[3]), (0, *part), part[:3]]:
+                changed = table[:at] + [wrong] + table[at + 1:]
+                self.assertIs(shows_apart(*contest, (told_number, row, changed)), False)
             for path in paths_of(part)[1:]:
                 for wrong in of_other_kinds(part_at(part, path)):
                     if type(wrong) is not type(part_at(part, path)):
@@ -261,7 +274,8 @@ class ShowsApartTest(unittest.TestCase):
 
     def test_things_are_as_before(self):
         contest = (MACHINE, OTHER, free_rule("ab"))
-        for thing in [told(contest), ((0, 1), ("", "a"), [[0, 0, 0, (0, 1)]]), ((0, 1), ("", "a"), [(0, 0, 0, (0, 1))])]:
+        for thing in [told(contest), ((0, 1), ("", "a"), [[0, 0, 0, (0, 1)]]),
+                      ((0, 1), ("", "a"), [(0, 0, 0, (0, 1))])]:
             before = copy.deepcopy(thing)
             shows_apart(*contest, thing)
             self.assertEqual(thing, before)
@@ -340,6 +354,13 @@ class SpanTest(unittest.TestCase):
         self.assertEqual([end[0] for end in ends], [(0, 1), (0, 1)])
         self.assertTrue(all(len(part) <= 1500 for end in ends for part in end[1]))
         self.assertRaises(NoWord, span, wheel(2, 297), turning, "a" * 301)
+
+    def test_as_many_states_as_can_be(self):
+        # By a the machine goes round 300 states, by b the rule goes round 4.
+        plain = (2, "ab", tuple([((at % 7, (at + 1) % 300), (-at % 5, at)) for at in range(300)]))
+        rule = ("ab", tuple([(at, (at + 1) % 4) for at in range(4)]))
+        least, greatest = self.check(plain, rule, "ab" * 150)
+        self.assertLess(least, greatest)
 
     def test_too_many_dicts(self):
         self.assertRaises(TooGreat, span, EXACT[301], free_rule("abc"))

@@ -92,7 +92,8 @@ class FormulasTest(unittest.TestCase):
             (operator.add, operator.iadd, source.choice([None, 10 ** 21, "a", True]), None),
             (operator.mul, operator.imul, source.choice([b, 21, 10 ** 30, None]), None),
             (operator.rshift, operator.irshift, source.choice(["z", 3, b, letters[0] * 301]), None),
-            (operator.or_, operator.ior, source.choice([3, None, Worth((7, letters, (((0, 0),) * len(letters),)))]), None),
+            (operator.or_, operator.ior,
+             source.choice([3, None, Worth((7, letters, (((0, 0),) * len(letters),)))]), None),
         ])
         if source.random() < 0.5:
             return operation(a, value), [formula]

@@ -95,7 +95,8 @@ class KeptTest(unittest.TestCase):
                 self.assertIsNot(made, b)
                 for _ in range(4):
                     row = row_of(source, one[1])
-                    self.assertEqual(due(made, row), DUE[operation](plain_worth(kept[0], row), plain_worth(kept[1], row)))
+                    x, y = [plain_worth(plain, row) for plain in kept]
+                    self.assertEqual(due(made, row), DUE[operation](x, y))
                 changed = Worth(one)
                 other_name = changed
                 self.assertIs(in_place(changed, b), other_name)
@@ -394,7 +395,8 @@ class NamesTest(unittest.TestCase):
 
     def test_operators_leave_both_as_they_were(self):
         a, b = Worth(A), Worth(B)
-        made = [a + b, a - b, a | b, a & b, -a, 3 * a, a * 3, a + 1, 1 + a, a - 1, 1 - a, a >> "ab", a + 0, a * 1, a >> ""]
+        made = [a + b, a - b, a | b, a & b, -a, 3 * a, a * 3, a + 1, 1 + a, a - 1, 1 - a, a >> "ab"]
+        made = made + [a + 0, a * 1, a >> "", a | a, a & a]
         self.assertEqual(len({id(one) for one in made + [a, b]}), len(made) + 2)
         self.assertEqual([a.plain(), b.plain()], [A, B])
         for one in made:
